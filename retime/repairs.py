@@ -1,0 +1,48 @@
+"""The cheapest repairs of a plan."""
+
+from retime.conflicts import conflicts, smallest_conflict
+from retime.errors import NoRepair
+from retime.flows import Flow
+from retime.keeping import earliest
+from retime.plans import Plan
+from retime.prices import check_prices, firm_nodes, limits_of
+
+
+def obstacle(plan, prices):
+    """Return the smallest pair of firm nodes that conflict, or None if there is a repair."""
+    check_prices(prices)
+    return smallest_conflict(conflicts(plan), firm_nodes(plan, prices))
+
+
+def lowest(plan, prices):
+    """Return the price and the kept tasks of the lowest cheapest repair, or None if there is no repair."""
+    check_prices(prices)
+    pairs = conflicts(plan)
+    if smallest_conflict(pairs, firm_nodes(plan, prices)) is not None:
+        return None
+    # Turning all pairs around turns the order of the cheapest repairs around.
+    return highest_of([(second, first) for first, second in pairs], limits_of(plan, prices))
+
+
+def highest(plan, prices):
+    """Return the price and the kept tasks of the highest cheapest repair, or None if there is no repair."""
+    check_prices(prices)
+    pairs = conflicts(plan)
+    if smallest_conflict(pairs, firm_nodes(plan, prices)) is not None:
+        return None
+    return highest_of(pairs, limits_of(plan, prices))
+
+
+def repair(plan, prices):
+    """Return the plan with the earliest times for the kept tasks of the lowest cheapest repair."""
+    pair = obstacle(plan, prices)
+    if pair is not None:
+        raise NoRepair(pair)
+    _, kept = lowest(plan, prices)
+    return Plan(plan.horizon, earliest(plan, kept), plan.lags())
+
+
+def highest_of(pairs, limits):
+    """Return the least price and the tuple of the tasks that the highest cheapest repair keeps."""
+    flow = Flow(pairs, limits)
+    return (flow.total(), tuple([node for node in flow.kept() if node != ""]))
