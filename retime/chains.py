@@ -2,7 +2,7 @@
 
 from retime.cycles import greatest_gaps
 from retime.errors import UnknownName
-from retime.plans import is_node_of
+from retime.plans import is_node_of, is_task_of
 
 
 def distance(plan, first, second):
@@ -28,6 +28,12 @@ def check_node(plan, thing):
     """Raise UnknownName unless a thing, any object, is the origin or a task of a plan."""
     if not is_node_of(thing, plan.times()):
         raise UnknownName("the plan has no such node")
+
+
+def check_task(plan, thing):
+    """Raise UnknownName unless a thing, any object, is a task of a plan."""
+    if not is_task_of(thing, plan.times()):
+        raise UnknownName("the plan has no such task")
 
 
 def gaps_of(plan):

@@ -12,8 +12,7 @@ def violations(plan):
 def conflicts(plan):
     """Return the ascending tuple of the pairs of nodes that conflict."""
     at = node_times(plan)
-    table = distances_from(plan, at)
-    return tuple([(first, second) for first in at for second in at if at[second] - at[first] < table[first][second]])
+    return tuple(conflicts_at(at, distances_from(plan, at)))
 
 
 def before(plan, node):
@@ -34,6 +33,16 @@ def node_times(plan):
     for name, time in plan.times().items():
         found[name] = time
     return found
+
+
+def conflicts_at(at, table):
+    """Return the list of the pairs of nodes that conflict at some times, in their order, by all distances."""
+    return [(first, second) for first in at for second in at if at[second] - at[first] < table[first][second]]
+
+
+def room_beside(at, table, name, node):
+    """Return the least and the greatest time at which a task does not conflict with another node at its time."""
+    return (at[node] + table[node][name], at[node] - table[name][node])
 
 
 def smallest_conflict(pairs, nodes):

@@ -3,6 +3,7 @@
 from retime.chains import distances_from
 from retime.conflicts import conflicts, node_times, smallest_conflict
 from retime.errors import CannotKeep, InvalidKept
+from retime.plans import is_task_of
 
 
 def can_keep(plan, kept):
@@ -37,8 +38,7 @@ def are_tasks(thing, tasks):
     """Tell whether a thing, any object, is a list or tuple of keys of a dict of tasks, each at most once."""
     if not isinstance(thing, (list, tuple)):
         return False
-    # Only strings are looked up, for other objects may have no place in a dict.
-    if not all([isinstance(item, str) and item in tasks for item in thing]):
+    if not all([is_task_of(item, tasks) for item in thing]):
         return False
     return len(set(thing)) == len(thing)
 

@@ -29,10 +29,15 @@ def are_times(thing, horizon):
     return all([is_name(name) and is_integer_within(thing[name], 0, horizon) for name in thing])
 
 
+def is_task_of(thing, tasks):
+    """Tell whether a thing, any object, is one of the tasks of a dict."""
+    # Only strings are looked up, for other objects may have no place in a dict.
+    return isinstance(thing, str) and thing in tasks
+
+
 def is_node_of(thing, tasks):
     """Tell whether a thing, any object, is the origin or one of the tasks of a dict."""
-    # Only strings are looked up, for other objects may have no place in a dict.
-    return isinstance(thing, str) and (thing == "" or thing in tasks)
+    return thing == "" or is_task_of(thing, tasks)
 
 
 def is_lag(thing, tasks):
@@ -73,7 +78,7 @@ class Plan:
 
     def time(self, name):
         """Return the time of a task."""
-        if not isinstance(name, str) or name not in self._times:
+        if not is_task_of(name, self._times):
             raise UnknownName("the plan has no such task")
         return self._times[name]
 

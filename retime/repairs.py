@@ -10,15 +10,14 @@ from retime.prices import check_prices, firm_nodes, limits_of
 
 def obstacle(plan, prices):
     """Return the smallest pair of firm nodes that conflict, or None if there is a repair."""
-    check_prices(prices)
-    return smallest_conflict(conflicts(plan), firm_nodes(plan, prices))
+    _, pair = conflicts_and_obstacle(plan, prices)
+    return pair
 
 
 def lowest(plan, prices):
     """Return the price and the kept tasks of the lowest cheapest repair, or None if there is no repair."""
-    check_prices(prices)
-    pairs = conflicts(plan)
-    if smallest_conflict(pairs, firm_nodes(plan, prices)) is not None:
+    pairs, pair = conflicts_and_obstacle(plan, prices)
+    if pair is not None:
         return None
     # Turning all pairs around turns the order of the cheapest repairs around.
     return highest_of([(second, first) for first, second in pairs], limits_of(plan, prices))
@@ -26,9 +25,8 @@ def lowest(plan, prices):
 
 def highest(plan, prices):
     """Return the price and the kept tasks of the highest cheapest repair, or None if there is no repair."""
-    check_prices(prices)
-    pairs = conflicts(plan)
-    if smallest_conflict(pairs, firm_nodes(plan, prices)) is not None:
+    pairs, pair = conflicts_and_obstacle(plan, prices)
+    if pair is not None:
         return None
     return highest_of(pairs, limits_of(plan, prices))
 
@@ -40,6 +38,13 @@ def repair(plan, prices):
         raise NoRepair(pair)
     _, kept = lowest(plan, prices)
     return Plan(plan.horizon, earliest(plan, kept), plan.lags())
+
+
+def conflicts_and_obstacle(plan, prices):
+    """Return all pairs of nodes that conflict, and the smallest one of two firm nodes, or None."""
+    check_prices(prices)
+    pairs = conflicts(plan)
+    return (pairs, smallest_conflict(pairs, firm_nodes(plan, prices)))
 
 
 def highest_of(pairs, limits):

@@ -200,6 +200,69 @@ def dearest_conflicts(left, against, prices):
     return min(without, within)
 
 
+def with_time(plan, name, time):
+    """Return the plan in which a task has another time."""
+    return Plan(plan.horizon, {**plan.times(), name: time}, plan.lags())
+
+
+def price_at(plan, prices, name, time):
+    """Return the least price if a task has a time, is firm and costs nothing, or None."""
+    return least_price(with_time(plan, name, time), {other: prices[other] for other in prices if other != name})
+
+
+def mirrored(plan):
+    """Return the plan in which every time is replaced by the horizon minus the time, as [10] says."""
+    high = plan.horizon
+    lags = []
+    for first, second, gap in plan.lags():
+        if first == "":
+            lags.append((second, "", gap - high))
+        elif second == "":
+            lags.append(("", first, gap + high))
+        else:
+            lags.append((second, first, gap))
+    times = {name: high - time for name, time in plan.times().items()}
+    return Plan(high, times, [lag for lag in lags if abs(lag[2]) <= 1000000])
+
+
+def is_supporting(plan, prices, thing, bar):
+    """Tell whether a thing is a certificate that supports a bar, as [21] and [22] say."""
+    if type(thing) is not list:
+        return False
+    pairs = plain_conflicts(plan)
+    loads = dict.fromkeys(prices, 0)
+    for entry in thing:
+        if type(entry) is not tuple or len(entry) != 2:
+            return False
+        nodes, amount = entry
+        if type(nodes) is not tuple or len(nodes) < 2 or type(amount) is not int or amount < 1:
+            return False
+        if any(pair not in pairs for pair in itertools.pairwise(nodes)):
+            return False
+        for node in nodes:
+            if node in prices:
+                loads[node] += amount
+    if any(loads[name] > prices[name] for name in prices):
+        return False
+    if bar is None:
+        return any(len([node for node in nodes if node not in prices]) >= 2 for nodes, _ in thing)
+    return sum_of(thing) >= bar
+
+
+def sum_of(entries):
+    """Return the sum that a certificate has."""
+    return sum((len(nodes) - 1) * amount for nodes, amount in entries)
+
+
+def all_chains(plan):
+    """Return all tuples of at least two nodes, each of them before the next one."""
+    pairs = plain_conflicts(plan)
+    found = list(pairs)
+    for nodes in found:
+        found.extend((*nodes, second) for first, second in pairs if first == nodes[-1])
+    return found
+
+
 def cheapest_of(repairs):
     """Return the list of the kept tasks of the repairs with the least price."""
     least = min(repairs.values(), default=None)

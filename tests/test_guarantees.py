@@ -1,15 +1,20 @@
-"""Tests of the guarantees [10] about before, conflicts, kept tasks, repairs, and added or removed lags."""
+"""Tests of the guarantees [10] about conflicts, repairs, certificates, steps, lags and mirrored plans."""
 
+import functools
 import itertools
 import random
 import unittest
 
 import drawn
+from retime.certificates import certificate, check_certificate
 from retime.conflicts import after, before, conflicts
 from retime.errors import InconsistentLags
 from retime.keeping import can_keep, earliest, latest
+from retime.lattice import always_kept, join, meet, sometimes_kept
 from retime.plans import Plan
 from retime.repairs import highest, lowest, obstacle, repair
+from retime.slack import displaced, fixed, slack
+from retime.steps import steps
 
 MILLION = 1000000
 
@@ -103,23 +108,144 @@ class RepairsTest(unittest.TestCase):
             for name in plan.times():
                 self.assertIs(found.time(name) == plan.time(name), name in lowest(plan, prices)[1])
 
-    def test_the_mirrored_plan_can_keep_the_same_tasks(self):
-        for plan in small_plans(81):
-            high = plan.horizon
-            lags = []
-            for first, second, gap in plan.lags():
-                if first == "":
-                    lags.append((second, "", gap - high))
-                elif second == "":
-                    lags.append(("", first, gap + high))
-                else:
-                    lags.append((second, first, gap))
-            times = {name: high - time for name, time in plan.times().items()}
-            other = Plan(high, times, [lag for lag in lags if -MILLION <= lag[2] <= MILLION])
-            for kept in drawn.subsets(plan.times()):
-                self.assertIs(can_keep(other, kept), can_keep(plan, kept))
-            tasks = [(second, first) for first, second in conflicts(plan)]
-            self.assertEqual(conflicts(other), tuple(sorted(tasks)))
+
+def greatest_sum(plan, prices):
+    """Return the greatest sum that a certificate of a plan with a repair can have, by all lists of chains."""
+    chains = drawn.all_chains(plan)
+
+    @functools.cache
+    def most(at, left):
+        if at == len(chains):
+            return 0
+        left = dict(left)
+        found = most(at + 1, tuple(left.items()))
+        for amount in range(1, 1 + min(left[node] for node in chains[at] if node in left)):
+            rest = {node: price - amount if node in chains[at] else price for node, price in left.items()}
+            found = max(found, (len(chains[at]) - 1) * amount + most(at + 1, tuple(rest.items())))
+        return found
+
+    return most(0, tuple((name, prices[name]) for name in plan.times() if name in prices))
+
+
+class CertificatesTest(unittest.TestCase):
+    def test_the_least_price_is_the_greatest_sum_of_a_certificate(self):
+        dice = random.Random(91)
+        seen = set()
+        for plan in small_plans(92):
+            full = {name: dice.randint(1, 3) for name in plan.times()}
+            for prices in [full, {name: full[name] for name in full if dice.randint(0, 4)}]:
+                if obstacle(plan, prices) is not None:
+                    self.assertTrue(drawn.is_supporting(plan, prices, certificate(plan, prices), None))
+                    continue
+                least = lowest(plan, prices)[0]
+                self.assertEqual(greatest_sum(plan, prices), least)
+                self.assertEqual(drawn.sum_of(certificate(plan, prices)), least)
+                seen.add(least)
+        self.assertLessEqual({0, 1, 2, 3, 4, 5}, seen)
+
+    def test_no_certificate_supports_more_than_the_least_price(self):
+        dice = random.Random(93)
+        seen = 0
+        for plan, prices in eight_tasks(94, 40):
+            least = lowest(plan, prices)[0]
+            chains = drawn.all_chains(plan)
+            for _ in range(20 if chains else 0):
+                thing = []
+                for chain in dice.sample(chains, len(chains)):
+                    if check_certificate(plan, prices, thing + [(chain, 1)], 0):
+                        thing.append((chain, 1))
+                self.assertIs(check_certificate(plan, prices, thing, least + 1), False)
+                seen += check_certificate(plan, prices, thing, least)
+        self.assertGreater(seen, 20)
+
+    def test_if_a_lag_is_added_a_certificate_stays_a_certificate(self):
+        dice = random.Random(95)
+        dearer = 0
+        for plan in small_plans(96, 100):
+            prices = drawn.draw_prices(dice, plan)
+            lag = draw_lag(dice, plan) if len(plan) else None
+            if lag is None:
+                continue
+            other = Plan(plan.horizon, plan.times(), plan.lags() + (lag,))
+            found = certificate(plan, prices)
+            bar = None if obstacle(plan, prices) else lowest(plan, prices)[0]
+            self.assertIs(check_certificate(plan, prices, found, bar), True)
+            self.assertIs(check_certificate(other, prices, found, bar), True)
+            self.assertTrue(set(conflicts(plan)) <= set(conflicts(other)))
+            dearer += conflicts(plan) != conflicts(other)
+        self.assertGreater(dearer, 10)
+
+
+class StepsTest(unittest.TestCase):
+    def assert_smaller_of_two(self, plan, prices):
+        """Check the two numbers for each priced task; return on which sides the smaller ones are."""
+        least = lowest(plan, prices)[0]
+        sides = []
+        for name in plan.times():
+            if name not in prices:
+                continue
+            found = steps(plan, prices, name)
+            at_any = prices[name] + min(price for _, _, price in found)
+            at_old = [price for low, high, price in found if low <= plan.time(name) <= high]
+            self.assertEqual(min([at_any, *at_old]), least)
+            sides.append((at_any == least, at_old == [least]))
+        return sides
+
+    def test_the_least_price_is_the_smaller_one_of_two_numbers(self):
+        dice = random.Random(97)
+        seen = set()
+        for plan in small_plans(98, 100):
+            for prices in [drawn.draw_prices(dice, plan), {name: dice.randint(1, 3) for name in plan.times()}]:
+                if obstacle(plan, prices) is None:
+                    seen.update(self.assert_smaller_of_two(plan, prices))
+        for plan, prices in eight_tasks(99):
+            seen.update(self.assert_smaller_of_two(plan, prices))
+        self.assertEqual(seen, {(True, False), (False, True), (True, True)})
+
+    def test_with_thirty_tasks(self):
+        dice = random.Random(100)
+        plan = drawn.draw_plan(dice, 30, 1000, 60)
+        self.assert_smaller_of_two(plan, {name: dice.randint(1, 999) for name in list(plan.times())[::3] + list(plan.times())[1:]})
+
+
+class MirrorTest(unittest.TestCase):
+    def assert_mirrored(self, plan, prices):
+        other = drawn.mirrored(plan)
+        for kept in drawn.subsets(list(plan.times())[:5]):
+            self.assertIs(can_keep(other, kept), can_keep(plan, kept))
+        tasks = [(second, first) for first, second in conflicts(plan)]
+        self.assertEqual(conflicts(other), tuple(sorted(tasks)))
+        self.assertEqual([lowest(other, prices), highest(other, prices)], [highest(plan, prices), lowest(plan, prices)])
+        for name in plan.times():
+            times = slack(plan, name)
+            turned = None if times is None else (plan.horizon - times[1], plan.horizon - times[0])
+            self.assertEqual(slack(other, name), turned)
+            prices_there = [(plan.horizon - high, plan.horizon - low, price) for low, high, price in steps(plan, prices, name)]
+            self.assertEqual(steps(other, prices, name), prices_there[::-1])
+        self.assertEqual([fixed(other), displaced(other)], [fixed(plan), displaced(plan)])
+
+    def test_drawn_plans(self):
+        dice = random.Random(81)
+        for plan in small_plans(82):
+            for prices in [drawn.draw_prices(dice, plan), {name: dice.randint(1, 2) for name in plan.times()}]:
+                self.assert_mirrored(plan, prices)
+
+    def test_eight_tasks(self):
+        for plan, prices in eight_tasks(181, 20):
+            self.assert_mirrored(plan, prices)
+            other = drawn.mirrored(plan)
+            for function in [always_kept, sometimes_kept]:
+                self.assertEqual(function(other, prices), function(plan, prices))
+            cheapest = drawn.cheapest_of(drawn.free_repairs(plan, prices))
+            for first, second in itertools.combinations(cheapest[:6], 2):
+                self.assertEqual(meet(other, prices, first, second), join(plan, prices, first, second))
+
+    def test_gaps_that_are_out_of_range_when_turned_around(self):
+        lags = [("", "a", -5), ("a", "", 0), ("b", "", -600000), ("", "b", -MILLION), ("c", "", -MILLION), ("a", "b", 7)]
+        plan = Plan(MILLION, {"a": 0, "b": 600001, "c": MILLION}, lags)
+        self.assertEqual(len(drawn.mirrored(plan).lags()), 4)
+        for prices in [{}, {"b": 3}, {"a": 1, "b": 2, "c": 3}]:
+            self.assert_mirrored(plan, prices)
 
 
 class LagsTest(unittest.TestCase):
