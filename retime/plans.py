@@ -93,3 +93,8 @@ class Plan:
         if not isinstance(other, Plan):
             return False
         return self.horizon == other.horizon and self._times == other._times and self._lags == other._lags
+
+
+def copy_of(plan):
+    """Return an equal plan, on which later changes to the given one have no effect."""
+    return Plan(plan.horizon, plan.times(), plan.lags())

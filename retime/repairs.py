@@ -3,7 +3,7 @@
 from retime.conflicts import conflicts, smallest_conflict
 from retime.errors import NoRepair
 from retime.flows import Flow
-from retime.keeping import earliest
+from retime.keeping import check_kept, earliest
 from retime.plans import Plan
 from retime.prices import check_prices, firm_nodes, limits_of
 
@@ -33,11 +33,24 @@ def highest(plan, prices):
 
 def repair(plan, prices):
     """Return the plan with the earliest times for the kept tasks of the lowest cheapest repair."""
+    _, repaired = priced_repair(plan, prices)
+    return repaired
+
+
+def priced_repair(plan, prices):
+    """Return the least price and the plan that repair returns, or raise InvalidPrices or NoRepair."""
     pair = obstacle(plan, prices)
     if pair is not None:
         raise NoRepair(pair)
-    _, kept = lowest(plan, prices)
-    return Plan(plan.horizon, earliest(plan, kept), plan.lags())
+    price, kept = lowest(plan, prices)
+    return (price, Plan(plan.horizon, earliest(plan, kept), plan.lags()))
+
+
+def repair_holding(plan, prices, hold):
+    """Return the price and the repaired plan where some tasks, any object, are firm even if they have a price."""
+    check_prices(prices)
+    check_kept(plan, hold)
+    return priced_repair(plan, {name: prices[name] for name in prices if name not in hold})
 
 
 def conflicts_and_obstacle(plan, prices):

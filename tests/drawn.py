@@ -54,6 +54,18 @@ def draw_prices(dice, plan):
     return {name: dice.choice(amounts) for name in names}
 
 
+def draw_edit(dice, plan):
+    """Return an edit, many of which a plan can take."""
+    names = [*plan.times(), *plan.times(), *plan.times(), *"abc"]
+    nodes = ["", *names]
+    time = dice.choice([0, plan.horizon, dice.randint(0, plan.horizon), dice.randint(-1, plan.horizon + 1)])
+    lag = (dice.choice(nodes), dice.choice(nodes), dice.randint(-plan.horizon - 1, dice.choice([1, plan.horizon])))
+    return dice.choice([
+        ("task", dice.choice("abcdefgh"), time), ("drop", dice.choice(names)), ("time", dice.choice(names), time),
+        ("lag", *lag), ("lag", *lag), ("unlag", *dice.choice(plan.lags() or [lag])),
+    ])
+
+
 def long_names(many):
     """Return as many names in ascending order."""
     return ["n" + chr(97 + at // 26) + chr(97 + at % 26) for at in range(many)]

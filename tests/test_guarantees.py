@@ -8,10 +8,12 @@ import unittest
 import drawn
 from retime.certificates import certificate, check_certificate
 from retime.conflicts import after, before, conflicts
-from retime.errors import InconsistentLags
+from retime.errors import InconsistentLags, NoRepair, RetimeError
+from retime.history import History
 from retime.keeping import can_keep, earliest, latest
 from retime.lattice import always_kept, join, meet, sometimes_kept
 from retime.plans import Plan
+from retime.registry import Registry
 from retime.repairs import highest, lowest, obstacle, repair
 from retime.slack import displaced, fixed, slack
 from retime.steps import steps
@@ -202,6 +204,26 @@ class StepsTest(unittest.TestCase):
             seen.update(self.assert_smaller_of_two(plan, prices))
         self.assertEqual(seen, {(True, False), (False, True), (True, True)})
 
+    def test_the_price_at_a_time_is_that_of_an_update_that_holds_the_task_there(self):
+        dice = random.Random(185)
+        seen = {True: 0, False: 0}
+        for plan in small_plans(186, 60) + [plan for plan, _ in eight_tasks(187, 20)]:
+            prices = draw_many_prices(dice, plan)
+            history = History(plan)
+            for name in dice.sample(list(plan.times()), min(2, len(plan))):
+                found = steps(plan, prices, name)
+                for time in range(plan.horizon + 1):
+                    expected = [price for low, high, price in found if low <= time <= high]
+                    seen[bool(expected)] += 1
+                    other = history.copy()
+                    if not expected:
+                        with self.assertRaises(NoRepair):
+                            other.update([("time", name, time)], prices, [name])
+                        continue
+                    self.assertEqual([other.update([("time", name, time)], prices, (name,))], expected)
+                    self.assertEqual([other.plan().time(name), other.spent()], [time, expected[0]])
+        self.assertGreater(min(seen.values()), 100)
+
     def test_with_thirty_tasks(self):
         dice = random.Random(100)
         plan = drawn.draw_plan(dice, 30, 1000, 60)
@@ -284,6 +306,82 @@ class LagsTest(unittest.TestCase):
                     self.assertLessEqual(at_once, in_steps)
                     seen.add(at_once < in_steps)
         self.assertEqual(seen, {True, False})
+
+    def test_the_same_in_a_history_in_either_order(self):
+        dice = random.Random(87)
+        seen = {True: 0, False: 0}
+        for plan in small_plans(88, 150) + [plan for plan, _ in eight_tasks(89, 60)]:
+            prices = draw_many_prices(dice, plan)
+            history = History(plan)
+            try:
+                history.update([], prices)
+            except NoRepair:
+                continue
+            lags = draw_new_lags(dice, history.plan())
+            for at in range(len(lags) + 1):
+                for first, second in [(lags[:at], lags[at:]), (lags[at:], lags[:at])]:
+                    in_steps = price_of_updates(history, prices, [first, second])
+                    at_once = price_of_updates(history, prices, [first + second])
+                    if at_once is None:
+                        self.assertIsNone(in_steps)
+                    elif in_steps is not None:
+                        self.assertLessEqual(at_once, in_steps)
+                        seen[at_once < in_steps] += 1
+        self.assertGreater(min(seen.values()), 10)
+
+
+def draw_many_prices(dice, plan):
+    """Return prices for most tasks of a plan."""
+    return {name: dice.randint(1, 3) for name in plan.times() if dice.randint(0, 9)}
+
+
+def draw_new_lags(dice, plan):
+    """Return edits that add a few lags that are consistent together."""
+    found = []
+    for _ in range(dice.randint(2, 4) if len(plan) else 0):
+        lag = draw_lag(dice, plan)
+        if lag is not None and lag not in plan.lags():
+            plan = Plan(plan.horizon, plan.times(), plan.lags() + (lag,))
+            found.append(("lag", *lag))
+    return found
+
+
+def price_of_updates(history, prices, updates):
+    """Return the sum of the prices of updates of a copy of a history, or None if one of them has no repair."""
+    history = history.copy()
+    try:
+        return sum(history.update(edits, prices) for edits in updates)
+    except NoRepair:
+        return None
+
+
+class FailuresTest(unittest.TestCase):
+    def test_a_call_that_raises_an_error_changes_nothing_except_a_log(self):
+        dice = random.Random(182)
+        failed = 0
+        for plan in small_plans(183, 40):
+            history, registry = History(plan), Registry()
+            registry.create("main", plan.horizon)
+            registry.update("main", [("task", *pair) for pair in plan.times().items()], [])
+            for _ in range(6):
+                edits = [drawn.draw_edit(dice, history.plan()) for _ in range(3)]
+                prices = draw_many_prices(dice, plan)
+                seen = [history.plan(), len(history), history.spent()]
+                there = [registry.plan("main"), registry.prices("main"), registry.spent("main"), registry.names()]
+                log = registry.log()
+                try:
+                    history.update(edits, prices)
+                except RetimeError:
+                    self.assertEqual([history.plan(), len(history), history.spent()], seen)
+                    failed += 1
+                try:
+                    registry.update("main", edits, [])
+                except RetimeError:
+                    self.assertEqual(
+                        [registry.plan("main"), registry.prices("main"), registry.spent("main"), registry.names()], there
+                    )
+                    self.assertEqual(registry.log(), log + ["update", "failed"])
+        self.assertGreater(failed, 50)
 
 
 if __name__ == "__main__":

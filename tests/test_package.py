@@ -8,7 +8,7 @@ import unittest
 
 FOLDER = os.path.join(os.path.dirname(os.path.abspath(__file__)), "..", "retime")
 
-# The interface of DOC.md as far as it has landed: file, name, parameters.
+# The interface of DOC.md: file, name, parameters.
 INTERFACE = [
     ("plans", "is_name", "(thing)"),
     ("plans", "Plan", "(horizon, times, lags=())"),
@@ -38,14 +38,31 @@ INTERFACE = [
     ("slack", "slack", "(plan, name)"),
     ("slack", "fixed", "(plan)"),
     ("slack", "displaced", "(plan)"),
+    ("edits", "apply_edits", "(plan, edits)"),
+    ("history", "History", "(plan)"),
+    ("registry", "Registry", "()"),
+    ("shell", "Shell", "()"),
     ("errors", "InconsistentLags", "(cycle)"),
     ("errors", "ParseError", "(line)"),
     ("errors", "CannotKeep", "(pair)"),
     ("errors", "NoRepair", "(pair)"),
     ("errors", "InvalidEdit", "(index)"),
 ]
+# The methods of the classes: file, class, and the parameters of each method.
 METHODS = [
-    ("plans", "Plan", ["__init__", "times", "time", "lags", "__len__", "__eq__"]),
+    ("plans", "Plan", {
+        "times": "()", "time": "(name)", "lags": "()", "__len__": "()", "__eq__": "(other)",
+    }),
+    ("history", "History", {
+        "update": "(edits, prices, hold=())", "plan": "(version=None)", "moved": "(first, second)", "spent": "()",
+        "copy": "()", "__len__": "()",
+    }),
+    ("registry", "Registry", {
+        "create": "(name, horizon)", "price": "(name, task, amount)", "update": "(name, edits, hold)", "remove": "(name)",
+        "mark": "(label)", "back": "(label)", "batch": "(commands)", "names": "()", "plan": "(name)", "prices": "(name)",
+        "spent": "(name)", "log": "()", "copy": "()",
+    }),
+    ("shell", "Shell", {"run": "(line)"}),
 ]
 
 
@@ -73,8 +90,18 @@ class InterfaceTest(unittest.TestCase):
     def test_methods_are_defined_in_their_class(self):
         for module, name, methods in METHODS:
             found = getattr(importlib.import_module("retime." + module), name)
-            for method in methods:
+            self.assertIn("__init__", vars(found))
+            for method, parameters in methods.items():
                 self.assertIn(method, vars(found))
+                expected = parameters.replace("(", "(self, ").replace("(self, )", "(self)").replace("=(self)", "=()")
+                self.assertEqual(str(inspect.signature(vars(found)[method])), expected, method)
+
+    def test_errors_are_direct_subclasses_of_the_base(self):
+        errors = importlib.import_module("retime.errors")
+        names = [name for name, thing in vars(errors).items() if inspect.isclass(thing)]
+        self.assertEqual(len(names), 16)
+        for name in names:
+            self.assertEqual(getattr(errors, name).__base__, ValueError if name == "RetimeError" else errors.RetimeError)
 
 
 class FilesTest(unittest.TestCase):
